@@ -103,16 +103,8 @@ func TestParseTimeRefuses(t *testing.T) {
 // refused.
 func TestParseTimeReadsOnlyWhatFormatTimeWrites(t *testing.T) {
 	for _, text := range []string{"0.000", "-0.050", "1.000", "12.345", "-999999.999", "1000000.000"} {
-		for i := 0; i <= len(text); i++ {
-			for b := 0; b < 256; b++ {
-				checkText(t, text[:i]+string([]byte{byte(b)})+text[i:])
-				if i < len(text) {
-					checkText(t, text[:i]+string([]byte{byte(b)})+text[i+1:])
-				}
-			}
-			if i < len(text) {
-				checkText(t, text[:i]+text[i+1:])
-			}
+		for _, near := range textsNear(text) {
+			checkText(t, near)
 		}
 	}
 }
