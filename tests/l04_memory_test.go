@@ -29,15 +29,17 @@ func TestTextsLeaveTheirArguments(t *testing.T) {
 	}
 }
 
-// piece is where a list is in the memory, with the capacity behind it.
+// piece is where a list is in the memory, with the capacity behind it. It holds the list, whose
+// memory could be given to another one otherwise.
 type piece struct {
 	name       string
 	start, end uintptr
+	list       any
 }
 
 func pieceOf[E any](name string, list []E) piece {
 	start := uintptr(unsafe.Pointer(unsafe.SliceData(list)))
-	return piece{name, start, start + uintptr(cap(list))*unsafe.Sizeof(*new(E))}
+	return piece{name, start, start + uintptr(cap(list))*unsafe.Sizeof(*new(E)), list}
 }
 
 // piecesOf returns all lists of a library.
